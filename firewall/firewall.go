@@ -4,6 +4,7 @@ package firewall
 import (
 	"firewall/api"
 	"firewall/frame"
+	"firewall/machine"
 )
 
 // Parse takes a frame apart (P3).
@@ -13,11 +14,11 @@ func Parse(data []byte) (api.Header, api.Class) { return frame.Parse(data) }
 func Build(h api.Header, pay []byte) ([]byte, error) { return frame.Build(h, pay) }
 
 // Check tells whether a code is safe (P6).
-func Check(code []byte) error { return nil }
+func Check(code []byte) error { return machine.Check(code) }
 
 // Exec runs a code over a frame (P7).
 func Exec(code []byte, data []byte, meta [api.Metas]uint32) (api.Verdict, int, error) {
-	return api.Drop, 0, nil
+	return machine.Exec(code, data, meta)
 }
 
 // Print writes rules in one way (P9).

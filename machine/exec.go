@@ -1,0 +1,86 @@
+package machine
+
+import (
+	"errors"
+
+	"firewall/api"
+)
+
+// Exec runs a code, that Check need not have taken, over a frame: the verdict, how many instructions were done, and ErrCode or a trap (P7). It ends, for no instruction leads back.
+func Exec(code []byte, data []byte, meta [api.Metas]uint32) (api.Verdict, int, error) {
+	list, err := read(code)
+	var fault *api.CodeError
+	if errors.As(err, &fault) {
+		return api.Drop, 0, fault.Kind
+	}
+	m := machine{data: data, meta: meta}
+	done := 0
+	for at := uint64(0); at < uint64(len(list)); {
+		in := list[at]
+		done++
+		if in.op == ret {
+			return api.Verdict(in.k), done, nil
+		}
+		if trap := m.trap(in); trap != nil {
+			return api.Drop, done, trap
+		}
+		at += 1 + uint64(m.do(in))
+	}
+	return api.Drop, done, api.TrapEnd
+}
+
+// machine is one at work.
+type machine struct {
+	data []byte
+	meta [api.Metas]uint32
+	reg  [api.Regs]uint32
+	set  [api.Regs]bool
+}
+
+// trap is nil where in can be done.
+func (m *machine) trap(in instruction) error {
+	switch {
+	case in.usesRegister() && !m.set[in.r]:
+		return api.TrapUnset
+	case in.isLoad() && in.loadEnd() > uint64(len(m.data)):
+		return api.TrapLoad
+	}
+	return nil
+}
+
+// do needs an instruction that does not trap and is not ret; it tells how many are passed over.
+func (m *machine) do(in instruction) uint32 {
+	switch in.op {
+	case ldb, ldh, ldw:
+		m.put(in.r, number(m.data[in.k:in.loadEnd()]))
+	case ldm:
+		m.put(in.r, m.meta[in.k])
+	case size:
+		m.put(in.r, uint32(len(m.data)))
+	case and:
+		m.reg[in.r] &= in.k
+	case shr:
+		m.reg[in.r] >>= in.k
+	case jeq:
+		return in.branch(m.reg[in.r] == in.k)
+	case jge:
+		return in.branch(m.reg[in.r] >= in.k)
+	case jset:
+		return in.branch(m.reg[in.r]&in.k != 0)
+	case jmp:
+		return in.k
+	}
+	return 0
+}
+
+func (m *machine) put(r uint8, n uint32) {
+	m.reg[r] = n
+	m.set[r] = true
+}
+
+func (in instruction) branch(holds bool) uint32 {
+	if holds {
+		return uint32(in.t)
+	}
+	return uint32(in.f)
+}
