@@ -5,6 +5,7 @@ import (
 	"firewall/api"
 	"firewall/frame"
 	"firewall/machine"
+	"firewall/rules"
 )
 
 // Parse takes a frame apart (P3).
@@ -22,10 +23,10 @@ func Exec(code []byte, data []byte, meta [api.Metas]uint32) (api.Verdict, int, e
 }
 
 // Print writes rules in one way (P9).
-func Print(text string) (string, error) { return "", nil }
+func Print(text string) (string, error) { return rules.Print(text) }
 
 // Compile makes a code of rules (P10).
-func Compile(text string) ([]byte, error) { return nil, nil }
+func Compile(text string) ([]byte, error) { return rules.Compile(text) }
 
 // Gate is a firewall at work.
 type Gate struct{}

@@ -28,7 +28,12 @@ func build(t *testing.T, h api.Header, pay []byte) []byte {
 }
 
 func TestNoCallPanics(t *testing.T) {
-	texts := []string{"", "policy drop", "\n\x00\xff", strings.Repeat("x", 3000)}
+	texts := []string{"", "policy drop", "\n\x00\xff", strings.Repeat("x", 3000), strings.Repeat("\n", 2000), "policy", " policy drop\naccept in", "policy drop\naccept from / to .../"}
+	for _, name := range []string{"in", "from", "to", "proto", "sport", "dport", "flags", "state"} {
+		for _, value := range []string{"", " ", " /", " -", " ,", " ...", " .../", " 1", " \xff", " 99999999999999999999", " 1/1", " 1-1", " 1.1.1.1/99"} {
+			texts = append(texts, "policy drop\naccept "+name+value)
+		}
+	}
 	lists := [][]byte{nil, {}, {0}, make([]byte, 8), bytes.Repeat([]byte{0xff}, 40), make([]byte, 70000)}
 	for _, text := range texts {
 		firewall.Print(text)

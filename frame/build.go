@@ -7,7 +7,7 @@ func Build(h api.Header, pay []byte) ([]byte, error) {
 	if len(pay) > api.MaxPay || !canBe(h) {
 		return nil, api.ErrArg
 	}
-	payAt := atInner + innerSize(h.Proto)
+	payAt := AtInner + innerSize(h.Proto)
 	data := make([]byte, payAt+len(pay))
 	putInner(data, h, len(pay))
 	copy(data[payAt:], pay)
@@ -43,13 +43,13 @@ func innerSize(proto uint8) int {
 func putInner(data []byte, h api.Header, paySize int) {
 	switch h.Proto {
 	case api.TCP:
-		putHalf(data, atSport, h.Sport)
-		putHalf(data, atDport, h.Dport)
+		putHalf(data, AtSport, h.Sport)
+		putHalf(data, AtDport, h.Dport)
 		data[atOffset] = (tcpSize / 4) << 4
-		data[atFlags] = h.Flags
+		data[AtFlags] = h.Flags
 	case api.UDP:
-		putHalf(data, atSport, h.Sport)
-		putHalf(data, atDport, h.Dport)
+		putHalf(data, AtSport, h.Sport)
+		putHalf(data, AtDport, h.Dport)
 		putHalf(data, atUDPSize, uint16(udpSize+paySize))
 	case api.ICMP:
 		data[atICMPType] = h.Flags
@@ -63,8 +63,8 @@ func putHead(data []byte, h api.Header) {
 	data[atVersion] = version<<4 | headWords
 	putHalf(data, atTotal, uint16(len(data)-linkSize))
 	data[atLife] = life
-	data[atProto] = h.Proto
-	putWord(data, atSrc, h.Src)
-	putWord(data, atDst, h.Dst)
+	data[AtProto] = h.Proto
+	putWord(data, AtSrc, h.Src)
+	putWord(data, AtDst, h.Dst)
 	putHalf(data, atSum, ^headSum(data))
 }

@@ -8,25 +8,25 @@ const (
 	atTotal    = 16
 	atFragment = 20
 	atLife     = 22
-	atProto    = 23
+	AtProto    = 23
 	atSum      = 24
-	atSrc      = 26
-	atDst      = 30
-	atInner    = 34
+	AtSrc      = 26
+	AtDst      = 30
+	AtInner    = 34
 
-	atSport    = atInner
-	atDport    = atInner + 2
-	atOffset   = atInner + 12
-	atFlags    = atInner + 13
-	atUDPSize  = atInner + 4
-	atICMPType = atInner
-	atICMPID   = atInner + 4
+	AtSport    = AtInner
+	AtDport    = AtInner + 2
+	atOffset   = AtInner + 12
+	AtFlags    = AtInner + 13
+	atUDPSize  = AtInner + 4
+	atICMPType = AtInner
+	atICMPID   = AtInner + 4
 )
 
 // How many bytes the heads have.
 const (
 	linkSize = atVersion
-	headSize = atInner - atVersion
+	headSize = AtInner - atVersion
 	tcpSize  = 20
 	udpSize  = 8
 	icmpSize = 8
@@ -73,7 +73,7 @@ func putWord(data []byte, at int, n uint32) {
 // headSum needs a frame that is not Cut.
 func headSum(data []byte) uint16 {
 	var sum uint32
-	for at := atVersion; at < atInner; at += 2 {
+	for at := atVersion; at < AtInner; at += 2 {
 		sum += uint32(half(data, at))
 	}
 	for sum > fullSum {

@@ -18,7 +18,7 @@ func classOf(data []byte) api.Class {
 		return api.Short
 	case half(data, atType) != typeIPv4:
 		return api.Alien
-	case len(data) < atInner:
+	case len(data) < AtInner:
 		return api.Cut
 	case data[atVersion]>>4 != version:
 		return api.Version
@@ -44,7 +44,7 @@ func totalFits(data []byte) bool {
 // innerFits leaves out padding: it counts by the total, not by the frame's bytes.
 func innerFits(data []byte) bool {
 	size := int(half(data, atTotal)) - headSize
-	switch data[atProto] {
+	switch data[AtProto] {
 	case api.TCP:
 		return tcpFits(data, size)
 	case api.UDP:
@@ -74,16 +74,16 @@ func udpFits(data []byte, size int) bool {
 // headerOf needs a frame that is Fine.
 func headerOf(data []byte) api.Header {
 	h := api.Header{
-		Src:   word(data, atSrc),
-		Dst:   word(data, atDst),
-		Proto: data[atProto],
+		Src:   word(data, AtSrc),
+		Dst:   word(data, AtDst),
+		Proto: data[AtProto],
 	}
 	switch h.Proto {
 	case api.TCP:
-		h.Sport, h.Dport = half(data, atSport), half(data, atDport)
-		h.Flags = data[atFlags] & flagBits
+		h.Sport, h.Dport = half(data, AtSport), half(data, AtDport)
+		h.Flags = data[AtFlags] & flagBits
 	case api.UDP:
-		h.Sport, h.Dport = half(data, atSport), half(data, atDport)
+		h.Sport, h.Dport = half(data, AtSport), half(data, AtDport)
 	case api.ICMP:
 		h.Flags = data[atICMPType]
 		if isEcho(h.Flags) {

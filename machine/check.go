@@ -15,19 +15,19 @@ func Check(code []byte) error {
 }
 
 // exits tells how many instructions each way out passes over; of a branch the way t comes first.
-func (in instruction) exits() []uint32 {
+func (in Instruction) exits() []uint32 {
 	switch {
-	case in.op == ret:
+	case in.Op == Ret:
 		return nil
-	case in.op == jmp:
-		return []uint32{in.k}
+	case in.Op == Jmp:
+		return []uint32{in.K}
 	case in.isBranch():
-		return []uint32{uint32(in.t), uint32(in.f)}
+		return []uint32{uint32(in.T), uint32(in.F)}
 	}
 	return []uint32{0}
 }
 
-func checkJumps(list []instruction) error {
+func checkJumps(list []Instruction) error {
 	for at, in := range list {
 		left := len(list) - at - 1
 		for _, over := range in.exits() {
@@ -40,7 +40,7 @@ func checkJumps(list []instruction) error {
 }
 
 // checkUses needs a list in which no jump leads beyond the end. One walk will do, for all ways lead forward: what is sure ahead of an instruction is whole when the walk comes to it.
-func checkUses(list []instruction) error {
+func checkUses(list []Instruction) error {
 	ahead := make([]facts, len(list))
 	ahead[0].come = true
 	for at, in := range list {
@@ -68,30 +68,30 @@ type facts struct {
 }
 
 // fault is 0 where there is none.
-func (known facts) fault(in instruction) api.Kind {
+func (known facts) fault(in Instruction) api.Kind {
 	switch {
-	case in.usesRegister() && !known.set[in.r]:
+	case in.usesRegister() && !known.set[in.R]:
 		return api.ErrUnset
-	case in.isLoad() && in.loadEnd() > uint64(known.there):
+	case in.isLoad() && in.LoadEnd() > uint64(known.there):
 		return api.ErrLoad
 	}
 	return 0
 }
 
 // behind tells what is sure along the way out of in that exits tells at that place.
-func (known facts) behind(in instruction, way int) facts {
-	switch in.op {
-	case ldb, ldh, ldw, ldm:
-		known.set[in.r] = true
-		known.hasLength[in.r] = false
-	case size:
-		known.set[in.r] = true
-		known.hasLength[in.r] = true
-	case and, shr:
-		known.hasLength[in.r] = false
-	case jeq, jge:
-		if way == 0 && known.hasLength[in.r] {
-			known.there = max(known.there, in.k)
+func (known facts) behind(in Instruction, way int) facts {
+	switch in.Op {
+	case Ldb, Ldh, Ldw, Ldm:
+		known.set[in.R] = true
+		known.hasLength[in.R] = false
+	case Len:
+		known.set[in.R] = true
+		known.hasLength[in.R] = true
+	case And, Shr:
+		known.hasLength[in.R] = false
+	case Jeq, Jge:
+		if way == 0 && known.hasLength[in.R] {
+			known.there = max(known.there, in.K)
 		}
 	}
 	return known

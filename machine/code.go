@@ -1,22 +1,22 @@
-// Package machine shows that a code is safe ahead of running it, and runs it over a frame (P5 to P7).
+// Package machine shows that a code is safe ahead of running it, and runs it over a frame (P5 to P7); codes are written by it, too.
 package machine
 
 import "firewall/api"
 
-// The ops. The one that the document names len is size here: len stays the language's.
+// The ops.
 const (
-	ret  = 0
-	ldb  = 1
-	ldh  = 2
-	ldw  = 3
-	ldm  = 4
-	size = 5
-	and  = 6
-	shr  = 7
-	jeq  = 8
-	jge  = 9
-	jset = 10
-	jmp  = 11
+	Ret  = 0
+	Ldb  = 1
+	Ldh  = 2
+	Ldw  = 3
+	Ldm  = 4
+	Len  = 5
+	And  = 6
+	Shr  = 7
+	Jeq  = 8
+	Jge  = 9
+	Jset = 10
+	Jmp  = 11
 )
 
 const (
@@ -24,19 +24,29 @@ const (
 	regBits = 32
 )
 
-// instruction is one that was taken out of a code; it is none (P5) unless it fits.
-type instruction struct {
-	op, r, t, f uint8
-	k           uint32
+// Instruction is one of a code; it is none (P5) unless it fits.
+type Instruction struct {
+	Op, R, T, F uint8
+	K           uint32
+}
+
+// Write is the other way round of read: it gives the code that these instructions are.
+func Write(list []Instruction) []byte {
+	code := make([]byte, 0, len(list)*insSize)
+	for _, in := range list {
+		code = append(code, in.Op, in.R, in.T, in.F)
+		code = append(code, byte(in.K>>24), byte(in.K>>16), byte(in.K>>8), byte(in.K))
+	}
+	return code
 }
 
 // read takes a code apart; its error is a *api.CodeError with ErrCode.
-func read(code []byte) ([]instruction, error) {
+func read(code []byte) ([]Instruction, error) {
 	count := len(code) / insSize
 	if len(code)%insSize != 0 || count == 0 || count > api.MaxCode {
 		return nil, &api.CodeError{At: 0, Kind: api.ErrCode}
 	}
-	list := make([]instruction, count)
+	list := make([]Instruction, count)
 	for at := range list {
 		list[at] = readOne(code[at*insSize:])
 		if !list[at].fits() {
@@ -46,8 +56,8 @@ func read(code []byte) ([]instruction, error) {
 	return list, nil
 }
 
-func readOne(b []byte) instruction {
-	return instruction{op: b[0], r: b[1], t: b[2], f: b[3], k: number(b[4:insSize])}
+func readOne(b []byte) Instruction {
+	return Instruction{Op: b[0], R: b[1], T: b[2], F: b[3], K: number(b[4:insSize])}
 }
 
 // number goes round above four bytes; none of its callers has more.
@@ -59,47 +69,47 @@ func number(b []byte) uint32 {
 	return n
 }
 
-func (in instruction) fits() bool {
-	if in.r >= api.Regs || !in.isBranch() && (in.t != 0 || in.f != 0) {
+func (in Instruction) fits() bool {
+	if in.R >= api.Regs || !in.isBranch() && (in.T != 0 || in.F != 0) {
 		return false
 	}
-	switch in.op {
-	case ret:
-		return in.r == 0 && in.k <= uint32(api.Reject)
-	case ldm:
-		return in.k < api.Metas
-	case size:
-		return in.k == 0
-	case shr:
-		return in.k < regBits
-	case jmp:
-		return in.r == 0
+	switch in.Op {
+	case Ret:
+		return in.R == 0 && in.K <= uint32(api.Reject)
+	case Ldm:
+		return in.K < api.Metas
+	case Len:
+		return in.K == 0
+	case Shr:
+		return in.K < regBits
+	case Jmp:
+		return in.R == 0
 	}
-	return in.op < jmp
+	return in.Op < Jmp
 }
 
-func (in instruction) isBranch() bool {
-	return in.op == jeq || in.op == jge || in.op == jset
+func (in Instruction) isBranch() bool {
+	return in.Op == Jeq || in.Op == Jge || in.Op == Jset
 }
 
-func (in instruction) isLoad() bool {
-	return in.op == ldb || in.op == ldh || in.op == ldw
+func (in Instruction) isLoad() bool {
+	return in.Op == Ldb || in.Op == Ldh || in.Op == Ldw
 }
 
 // usesRegister tells whether what register r held ahead matters.
-func (in instruction) usesRegister() bool {
-	return in.op == and || in.op == shr || in.isBranch()
+func (in Instruction) usesRegister() bool {
+	return in.Op == And || in.Op == Shr || in.isBranch()
 }
 
-// loadEnd has 64 bits, for a load may begin at the greatest number of 32.
-func (in instruction) loadEnd() uint64 {
-	end := uint64(in.k)
-	switch in.op {
-	case ldb:
+// LoadEnd tells how many bytes a load asks for. It has 64 bits, for a load may begin at the greatest number of 32.
+func (in Instruction) LoadEnd() uint64 {
+	end := uint64(in.K)
+	switch in.Op {
+	case Ldb:
 		end += 1
-	case ldh:
+	case Ldh:
 		end += 2
-	case ldw:
+	case Ldw:
 		end += 4
 	}
 	return end

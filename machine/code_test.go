@@ -2,6 +2,7 @@ package machine
 
 import (
 	"bytes"
+	"math/rand"
 	"testing"
 
 	"firewall/api"
@@ -114,6 +115,36 @@ func TestHowLongACodeIs(t *testing.T) {
 		_, _, err := Exec(c.code, nil, [api.Metas]uint32{})
 		if kind, _ := api.Told(err); kind != c.kind {
 			t.Errorf("P7: %s: %v, want %d", c.name, err, c.kind)
+		}
+	}
+}
+
+func TestWrite(t *testing.T) {
+	list := []Instruction{{Op: Len, R: 3}, {Op: Jge, R: 3, T: 1, F: 255, K: 0x12345678}, {Op: Ldw, R: 2, K: top - 1}, {Op: Ret, K: 2}}
+	want := asm(lenI(3), jgeI(3, 1, 255, 0x12345678), ldwI(2, top-1), retI(2))
+	if got := Write(list); !bytes.Equal(got, want) {
+		t.Errorf("P5: Write(%v) = %x, want %x", list, got, want)
+	}
+	if got := Write(nil); len(got) != 0 {
+		t.Errorf("P5: Write of nothing: %x", got)
+	}
+	rnd := rand.New(rand.NewSource(2))
+	for range 2000 {
+		code := someCode(rnd)
+		list, err := read(code)
+		if err != nil {
+			continue
+		}
+		if got := Write(list); !bytes.Equal(got, code) {
+			t.Fatalf("P5: Write of what was read out of %x: %x", code, got)
+		}
+	}
+}
+
+func TestTheOpsNumbers(t *testing.T) {
+	for number, op := range []int{Ret, Ldb, Ldh, Ldw, Ldm, Len, And, Shr, Jeq, Jge, Jset, Jmp} {
+		if op != number {
+			t.Errorf("P5: the op %d is %d", number, op)
 		}
 	}
 }

@@ -18,8 +18,8 @@ func Exec(code []byte, data []byte, meta [api.Metas]uint32) (api.Verdict, int, e
 	for at := uint64(0); at < uint64(len(list)); {
 		in := list[at]
 		done++
-		if in.op == ret {
-			return api.Verdict(in.k), done, nil
+		if in.Op == Ret {
+			return api.Verdict(in.K), done, nil
 		}
 		if trap := m.trap(in); trap != nil {
 			return api.Drop, done, trap
@@ -38,37 +38,37 @@ type machine struct {
 }
 
 // trap is nil where in can be done.
-func (m *machine) trap(in instruction) error {
+func (m *machine) trap(in Instruction) error {
 	switch {
-	case in.usesRegister() && !m.set[in.r]:
+	case in.usesRegister() && !m.set[in.R]:
 		return api.TrapUnset
-	case in.isLoad() && in.loadEnd() > uint64(len(m.data)):
+	case in.isLoad() && in.LoadEnd() > uint64(len(m.data)):
 		return api.TrapLoad
 	}
 	return nil
 }
 
 // do needs an instruction that does not trap and is not ret; it tells how many are passed over.
-func (m *machine) do(in instruction) uint32 {
-	switch in.op {
-	case ldb, ldh, ldw:
-		m.put(in.r, number(m.data[in.k:in.loadEnd()]))
-	case ldm:
-		m.put(in.r, m.meta[in.k])
-	case size:
-		m.put(in.r, uint32(len(m.data)))
-	case and:
-		m.reg[in.r] &= in.k
-	case shr:
-		m.reg[in.r] >>= in.k
-	case jeq:
-		return in.branch(m.reg[in.r] == in.k)
-	case jge:
-		return in.branch(m.reg[in.r] >= in.k)
-	case jset:
-		return in.branch(m.reg[in.r]&in.k != 0)
-	case jmp:
-		return in.k
+func (m *machine) do(in Instruction) uint32 {
+	switch in.Op {
+	case Ldb, Ldh, Ldw:
+		m.put(in.R, number(m.data[in.K:in.LoadEnd()]))
+	case Ldm:
+		m.put(in.R, m.meta[in.K])
+	case Len:
+		m.put(in.R, uint32(len(m.data)))
+	case And:
+		m.reg[in.R] &= in.K
+	case Shr:
+		m.reg[in.R] >>= in.K
+	case Jeq:
+		return in.branch(m.reg[in.R] == in.K)
+	case Jge:
+		return in.branch(m.reg[in.R] >= in.K)
+	case Jset:
+		return in.branch(m.reg[in.R]&in.K != 0)
+	case Jmp:
+		return in.K
 	}
 	return 0
 }
@@ -78,9 +78,9 @@ func (m *machine) put(r uint8, n uint32) {
 	m.set[r] = true
 }
 
-func (in instruction) branch(holds bool) uint32 {
+func (in Instruction) branch(holds bool) uint32 {
 	if holds {
-		return uint32(in.t)
+		return uint32(in.T)
 	}
-	return uint32(in.f)
+	return uint32(in.F)
 }
