@@ -27,32 +27,3 @@ func Print(text string) (string, error) { return rules.Print(text) }
 
 // Compile makes a code of rules (P10).
 func Compile(text string) ([]byte, error) { return rules.Compile(text) }
-
-// Gate is a firewall at work.
-type Gate struct{}
-
-// New makes one (P11).
-func New(capacity int, log func(api.Event)) (*Gate, error) { return &Gate{}, nil }
-
-// Load takes rules (P11).
-func (g *Gate) Load(text string) error { return nil }
-
-// Frame judges a frame (P12).
-func (g *Gate) Frame(iface uint8, data []byte) api.Verdict { return api.Drop }
-
-// Tick lets time pass (P13).
-func (g *Gate) Tick(n uint64) {}
-
-// Now tells the time (P13).
-func (g *Gate) Now() uint64 { return 0 }
-
-// Flows goes over the flows (P13).
-func (g *Gate) Flows() func(yield func(api.Flow) bool) {
-	return func(yield func(api.Flow) bool) {}
-}
-
-// List gives the flows (P13).
-func (g *Gate) List() []api.Flow { return nil }
-
-// Counts tells how many frames there were (P13).
-func (g *Gate) Counts() api.Counts { return api.Counts{} }
